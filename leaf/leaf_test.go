@@ -51,7 +51,7 @@ var good = []api.Leaf{
 var wrong = []api.Leaf{
 	{U: -1}, {U: 6}, {U: math.MinInt}, {U: math.MaxInt}, {U: 6, A: rs(0, 0)}, of(0, -1, 0), of(0, 0, 3652425), of(0, 5, 4), of(0, 1, 2, 3, 4), of(0, 5, 6, 1, 2), of(0, math.MinInt, math.MaxInt),
 	of(1, 0, 120000), of(1, 120000, 120000), of(2, 40000, 40000), of(3, 10000, 10000), of(3, -5, -5), of(3, 1984, 1985, 1985, 1986), of(4, 0, 1000), of(5, 0, 100), of(5, -1, 5),
-	{U: 3, A: rs(1984, 1984), B: rs(1, 2)}, {A: rs(1, 2), B: rs(1, 2)}, {B: rs(0, 0)}, {B: rs(1, 0)},
+	{U: 3, A: rs(1984, 1984), B: rs(1, 2)}, {A: rs(1, 2), B: rs(1, 2)}, {B: rs(0, 0)},
 	{Span: true, U: 1}, {Span: true, U: 3, A: rs(1, 3), B: rs(2, 5)}, {Span: true, U: -1, A: rs(1, 3), B: rs(2, 5)},
 	span(rs(3, 1), rs(2, 5)), span(rs(1, 3), rs(5, 2)), span(rs(1, 3, 4, 5), rs(2, 9)), span(rs(1, 3), rs(4, 5, 2, 3)), span(rs(-1, 3), rs(2, 5)), span(rs(1, 3), rs(2, 3652425)), span(rs(1, 3652425), rs(2, 5)), span(rs(1, 3), rs(-2, 5)), span(rs(1, 3), rs(math.MinInt, math.MaxInt)),
 }
